@@ -1,0 +1,1 @@
+"""Offside: blocks told by columns, under any book of rules."""
