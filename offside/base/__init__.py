@@ -1,1 +1,1 @@
-"""What everything else is made of: words and books."""
+"""What everything else is made of: words, books and texts."""

@@ -1,5 +1,7 @@
 """Integers, words, columns, lines and signs: what is one, and what is not."""
 
+from offside.errors import InvalidNumber
+
 MAX_LETTERS = 8
 MAX_COLUMN = 199
 MAX_WORDS = 6
@@ -13,6 +15,12 @@ def is_integer(value):
     if not isinstance(value, int) or isinstance(value, bool):
         return False
     return abs(value) < 10 ** 60
+
+
+def check_number(value, least, greatest):
+    """Raises InvalidNumber unless the value is an integer within these bounds."""
+    if not is_integer(value) or not least <= value <= greatest:
+        raise InvalidNumber(value)
 
 
 def is_word(value):

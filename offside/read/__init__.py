@@ -1,0 +1,1 @@
+"""How texts are read: the rules, readings, and the states between lines."""
