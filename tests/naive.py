@@ -220,3 +220,50 @@ def blocks(book, lines, state=((), ""), is_open=False):
         if block[3] is None:
             block[3] = len(heads) - 1
     return tuple(tuple(block) for block in found), homes
+
+
+def asked(book, lines, state):
+    """How many blocks of the pile lines look at, the ground included, until they are read or break."""
+    pile = list(state[0])
+    waiting = state[1]
+    lowest = [len(pile)]
+    closers = list(book.brackets.values())
+
+    def top():
+        lowest[0] = min(lowest[0], len(pile) - 1)
+        return pile[-1] if pile else (0, "")
+
+    def read_words(words):
+        for word in words:
+            if word in book.enders or word in closers:
+                while top()[1] in book.openers:
+                    if pile.pop()[1] == book.enders.get(word):
+                        break
+                else:
+                    if word not in closers or book.brackets.get(top()[1]) != word:
+                        raise Stop("broken")
+                    pile.pop()
+            if word in book.brackets:
+                pile.append((-1, word))
+
+    try:
+        for column, words in lines:
+            first = words[0] in book.enders or words[0] in closers
+            if waiting and not first:
+                above = top()[0]
+            if waiting and not first and (column > above or (column == above and book.openers[waiting][0] == "level")):
+                pile.append((column, waiting))
+            else:
+                if waiting and book.openers[waiting][1] == "filled":
+                    raise Stop("filled")
+                ended = False
+                while not first and top()[0] > column:
+                    pile.pop()
+                    ended = True
+                if not first and -1 < top()[0] < column and (book.gap if ended else book.deep) == "breaks":
+                    raise Stop("broken")
+            read_words(words)
+            waiting = words[-1] if words[-1] in book.openers else ""
+    except Stop:
+        pass
+    return len(state[0]) - lowest[0]

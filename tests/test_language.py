@@ -14,6 +14,15 @@ INTERFACE = {
     },
     "base.words": {"is_integer", "is_word", "is_column", "is_line", "is_signs"},
     "base.books": {"Book"},
+    "base.texts": {"MAX_LINES", "Text"},
+    "read.reading": {"REASONS", "Reading", "is_row"},
+    "read.states": {
+        "MAX_PILE", "is_state", "is_regular", "class_of", "are_alike", "text_to", "telling", "is_telling", "states_upto",
+    },
+    "effect.pauses": {"Effect"},
+    "effect.alike": {"is_alike", "alike_paper", "is_alike_paper", "least_parting"},
+    "demand.rows": {"is_sign_rows", "is_demand", "first_impossible", "Wanted"},
+    "demand.columns": {"System", "is_chain", "is_ring", "span"},
 }
 BUILTINS = set("""
     len range enumerate zip min max sum abs sorted reversed int str bool list tuple dict set isinstance ord repr any
@@ -68,6 +77,35 @@ def bound_names(tree):
     return names
 
 
+def imported_names(tree):
+    """The names that a file imports."""
+    return {item.name for node in tree.body if isinstance(node, ast.ImportFrom) for item in node.names}
+
+
+def local_names(tree):
+    """The names of all parameters, variables and nested functions of the functions of a file."""
+    names = set()
+    for function in ast.walk(tree):
+        if isinstance(function, (ast.FunctionDef, ast.Lambda)):
+            nodes = [node for node in ast.walk(function) if node is not function]
+            names |= {node.arg for node in nodes if isinstance(node, ast.arg)}
+            names |= {node.id for node in nodes if isinstance(node, ast.Name) and not isinstance(node.ctx, ast.Load)}
+            names |= {node.name for node in nodes if isinstance(node, ast.FunctionDef)}
+    return names
+
+
+def methods_with(kind):
+    """All methods, or those with a decorator of this name, as pairs of a path and a node."""
+    found = []
+    for path, node in every(ast.ClassDef):
+        for method in node.body:
+            if isinstance(method, ast.FunctionDef):
+                decorators = [ast.unparse(item) for item in method.decorator_list]
+                if (kind == "" and not decorators) or kind in decorators:
+                    found.append((path, method))
+    return found
+
+
 def defined_names(tree):
     """The names that a file defines at its module level, imports left out."""
     names = {node.name for node in tree.body if isinstance(node, (ast.FunctionDef, ast.ClassDef))}
@@ -110,6 +148,47 @@ class TestCode(unittest.TestCase):
                 self.assertTrue(node.level == 0 and node.module.startswith("offside."), path)
                 source = PACKAGE.parent.joinpath(*node.module.split(".")).with_suffix(".py")
                 self.assertLessEqual(names, defined_names(ast.parse(source.read_text("utf-8"))), path)
+
+    def test_no_import_in_a_circle(self):
+        needs = {}
+        for path, tree in trees():
+            name = ".".join(path.relative_to(PACKAGE.parent).with_suffix("").parts)
+            needs[name] = {node.module for node in tree.body if isinstance(node, ast.ImportFrom)
+                           and node.module.startswith("offside")}
+        while needs:
+            free = [name for name in needs if not needs[name] & set(needs)]
+            self.assertTrue(free, sorted(needs))
+            for name in free:
+                del needs[name]
+
+    def test_imports_are_used(self):
+        for path, tree in trees():
+            used = {node.id for node in ast.walk(tree) if isinstance(node, ast.Name)}
+            self.assertLessEqual(imported_names(tree), used, path)
+
+    def test_local_names(self):
+        for path, tree in trees():
+            classes = {node.name for node in tree.body if isinstance(node, ast.ClassDef)}
+            self.assertEqual(local_names(tree) & (imported_names(tree) | classes), set(), path)
+
+    def test_names_of_properties_and_methods(self):
+        properties = {method.name for _, method in methods_with("property")}
+        own = {method.name for kind in ("", "classmethod", "staticmethod") for _, method in methods_with(kind)}
+        stored = {node.attr for _, node in every(ast.Attribute) if isinstance(node.ctx, ast.Store)}
+        self.assertEqual([properties & own, properties & stored, own & stored], [set(), set(), set()])
+        plain = {method.name for _, method in methods_with("")}
+        self.assertEqual(plain & {method.name for _, method in methods_with("classmethod")}, set())
+
+    def test_names_of_generators(self):
+        names = [node.name for _, node in every(ast.FunctionDef)]
+        for path, node in every(ast.FunctionDef):
+            if any(isinstance(item, (ast.Yield, ast.YieldFrom)) for item in ast.walk(node)):
+                self.assertEqual(names.count(node.name), 1, (path, node.name))
+
+    def test_iterated_classes(self):
+        for path, node in every(ast.ClassDef):
+            names = {item.name for item in node.body if isinstance(item, ast.FunctionDef)}
+            self.assertTrue("__iter__" in names or "__getitem__" not in names, (path, node.name))
 
     def test_builtins(self):
         for path, tree in trees():

@@ -1,0 +1,1 @@
+"""Which columns give a wanted reading: demands between lines."""

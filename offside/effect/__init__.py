@@ -1,0 +1,1 @@
+"""What stretches of lines do in the midst of texts."""
