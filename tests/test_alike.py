@@ -8,9 +8,11 @@ import unittest
 from offside.base.books import Book
 from offside.base.texts import Text
 from offside.effect.alike import alike_paper, is_alike, is_alike_paper, least_parting
+from offside.effect.links import Links
 from offside.effect.pauses import Effect
 from offside.errors import InvalidBook, InvalidText, TooMany
 from offside.read.states import are_alike, states_upto
+from offside.read.walk import Rules
 from tests import naive
 from tests.values import (Refusing, hs_book, kinds_of_books, loop_text, not_of, odd_values, py_book, random_book,
                           random_text)
@@ -241,6 +243,9 @@ class TestKinds(Comparing):
         self.assert_unlike(rich_book(), "", "x", 1)
         # Behind p, which can be empty, the ender gives it an empty block.
         self.assert_unlike(rich_book(), "", "e", 0)
+        book = Book({"p": ("level", "empty")}, {"e": "p"}, {})
+        self.assert_unlike(book, "", "e", 0)
+        self.assert_unlike(book, "", "x", 1)
         self.assert_alike(rich_book(), "", "")
         self.assert_alike(rich_book(), "x e e r e r", "x e e r e r")
 
@@ -338,6 +343,32 @@ class TestPapers(Comparing):
             self.assertIs(is_alike_paper(rich_book(), one, other, ("alike", value)), False)
         self.assertIs(is_alike_paper(rich_book(), one, other, paper), True)
 
+    def test_values_of_another_form_in_a_link(self):
+        one, other = text("  x y"), text("  x\n   y")
+        links = alike_paper(rich_book(), one, other)[1]
+
+        def with_each_exchanged(value, news):
+            """The value with each of its items, at any depth, in the place of which stands each of these."""
+            for new in news:
+                yield new
+            if isinstance(value, tuple):
+                for at, item in enumerate(value):
+                    for found in with_each_exchanged(item, news):
+                        yield value[:at] + (found,) + value[at + 1:]
+
+        for new in with_each_exchanged(links[2], [(0,), ("asks",), None, [], {}, "", 0, False, (), rich_book()]):
+            value = links[:2] + (new,) + links[3:]
+            if value != links:
+                self.assertIs(is_alike_paper(rich_book(), one, other, ("alike", value)), False)
+
+    def test_links_of_unlike_stretches(self):
+        for written in (("  x", "   x"), ("e e x", "e e y"), ("", "e")):
+            one, other = text(written[0]), text(written[1])
+            links = Links(Rules(rich_book()), one.lines, other.lines)
+            links.explore()
+            self.assertEqual(links.least_told, least_parting(rich_book(), one, other))
+            self.assertIs(is_alike_paper(rich_book(), one, other, ("alike", links.ascending())), False)
+
     def test_true_is_not_one(self):
         one, other = text(" x y"), text(" x\n  y")
         links = alike_paper(rich_book(), one, other)[1]
@@ -374,7 +405,8 @@ class TestPapers(Comparing):
                                         ("y p", "", False), ("y p\n   y\n  z", "", False), ("r", "r", False),
                                         ("y p\n  y", "r", False), ("y o\n   y", "", True), ("", "", False)):
             value = ("unlike", text(before), text(after))
-            found = [naive.signs_read(book, value[1].lines + stretch.lines + value[2].lines) for stretch in (one, other)]
+            found = [naive.signs_read(book, value[1].lines + stretch.lines + value[2].lines)
+                     for stretch in (one, other)]
             self.assertEqual(found[0] != found[1], expected, (before, after))
             self.assertIs(is_alike_paper(book, one, other, value), expected)
 
@@ -421,6 +453,32 @@ class TestErrors(Refusing):
         self.assertIs(is_alike(wide_book(), one.part(0, 10), moved.part(0, 10)), True)
         links = alike_paper(wide_book(), one.part(0, 10), one.part(0, 10))[1]
         self.assertLess(10000, len(links))
+
+    def test_the_most_links_and_one_more(self):
+        book = Book({"a": ("level", "filled"), "b": ("deeper", "filled")}, {"e": "a"}, {}, deep="joins", gap="joins")
+        one = Text((98, ("x",)), *[(98, ("e",) * 6)] * 17)
+        paper = alike_paper(book, one, one)
+        self.assertEqual([paper[0], len(paper[1])], ["alike", 20000])
+        self.assertIs(is_alike(book, one, one), True)
+        self.assertIs(is_alike_paper(book, one, one, paper), True)
+        book = Book({"a": ("level", "filled")}, {"e": "a"}, {}, deep="joins", gap="joins")
+        one = Text(*[(78, ("e",) * 6)] * 41, (78, ("e",) * 5))
+        for call in self.calls():
+            self.assert_refused(TooMany, 20000, call, book, one, one)
+        # One word less needs one link less for each block that can be told.
+        one = Text(*[(78, ("e",) * 6)] * 41, (78, ("e",) * 4))
+        self.assertEqual(len(alike_paper(book, one, one)[1]), 20001 - 80)
+
+    def test_texts_behind_that_are_too_long(self):
+        # Both are read with the same signs, and a line behind them shows the block that is deeper.
+        fill = [(0, ("x",))] * 57
+        one, other = (Text(*fill, (0, ("x", "p")), (column, ("y",))) for column in (1, 2))
+        paper = alike_paper(rich_book(), one, other)
+        self.assertIs(is_alike_paper(rich_book(), one, other, paper), True)
+        self.assertEqual(len(paper[1]) + len(paper[2]), 1)
+        one, other = Text((0, ("x",))) + one, Text((0, ("x",))) + other
+        self.assert_refused(TooMany, 60, alike_paper, rich_book(), one, other)
+        self.assertIs(is_alike(rich_book(), one, other), False)
 
     def test_no_texts_that_are_short_enough(self):
         fill = [(1, ("x",))] * 59

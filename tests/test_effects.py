@@ -185,7 +185,8 @@ class TestStates(unittest.TestCase):
         self.assertEqual(effect.asked_at(state), naive.asked(effect.book, effect.text.lines, state), told)
 
     def test_small_stretches_from_all_small_states(self):
-        texts = ["", "x", " x", "  e", "r", " x p", " x r e", "  x\n x", " x e\n x", "e o\n x", "l\nx\nr", " x o\n  e\nx"]
+        texts = ["", "x", " x", "  e", "r", " x p", " x r e", "  x\n x", " x e\n x", "e o\n x", "l\nx\nr",
+                 " x o\n  e\nx"]
         for book in kinds_of_books()[::2]:
             blocks = [(0, "o"), (1, "o"), (2, "p"), (-1, "l")]
             for written in texts:

@@ -17,7 +17,8 @@ INTERFACE = {
     "base.texts": {"MAX_LINES", "Text"},
     "read.reading": {"REASONS", "Reading", "is_row"},
     "read.states": {
-        "MAX_PILE", "is_state", "is_regular", "class_of", "are_alike", "text_to", "telling", "is_telling", "states_upto",
+        "MAX_PILE", "is_state", "is_regular", "class_of", "are_alike", "text_to", "telling", "is_telling",
+        "states_upto",
     },
     "effect.pauses": {"Effect"},
     "effect.alike": {"is_alike", "alike_paper", "is_alike_paper", "least_parting"},

@@ -141,7 +141,8 @@ class TestBlocks(unittest.TestCase):
         self.assertEqual(self.blocks(rich_book(), "x l y r z"), (("l", 0, 0, 0),))
         self.assertEqual(self.blocks(rich_book(), "x l\n y\n z\nr"), (("l", 0, 0, 2),))
         self.assertEqual(self.blocks(rich_book(), "x l m\n y\n z n\nr"), (("l", 0, 0, 2), ("m", 0, 0, 2)))
-        self.assertEqual(self.blocks(rich_book(), "x l o\n y m\nn z\nx r x"), (("l", 0, 0, 3), ("o", 0, 1, 2), ("m", 1, 1, 1)))
+        self.assertEqual(self.blocks(rich_book(), "x l o\n y m\nn z\nx r x"),
+                         (("l", 0, 0, 3), ("o", 0, 1, 2), ("m", 1, 1, 1)))
         self.assertEqual(self.blocks(rich_book(), "l r"), (("l", 0, 0, 0),))
 
     def test_empty_ones(self):
@@ -314,7 +315,8 @@ class TestIsRow(Refusing):
         self.assertIs(is_row(py_book(), loop_text(), row), True)
         self.assertIs(is_row(py_book(), Text(), ((),)), True)
         near = [row[:-1], row + ((),), row[1:], list(row), tuple(list(signs) for signs in row), (), None,
-                row[:2] + (("{", "b", "x"),) + row[3:], row[:2] + (("b",),) + row[3:], row[:2] + (("{", "c"),) + row[3:]]
+                row[:2] + (("{", "b", "x"),) + row[3:], row[:2] + (("b",),) + row[3:],
+                row[:2] + (("{", "c"),) + row[3:]]
         for value in near + odd_values() + [Reading(py_book(), loop_text())]:
             self.assertIs(is_row(py_book(), loop_text(), value), False)
 

@@ -103,7 +103,8 @@ class TestTable(unittest.TestCase):
 
     def test_blocks_that_begin(self):
         for word, least in (("o", 1), ("f", 1), ("p", 0), ("g", 0)):
-            self.assert_demands(rich_book(), words_of(f"x {word}", "y"), row_of(f"; x {word}", "{ y", "}"), (1, -1, least))
+            words, row = words_of(f"x {word}", "y"), row_of(f"; x {word}", "{ y", "}")
+            self.assert_demands(rich_book(), words, row, (1, -1, least))
             words, row = words_of("x o", f"y {word}", "z"), row_of("; x o", f"{{ y {word}", "{ z", "} }")
             self.assert_demands(rich_book(), words, row, (2, 1, least))
             self.assert_demands(rich_book(), words_of(f"x l {word}", "y r"), row_of(f"; x l {word}", "{ y } r", ""))
@@ -125,7 +126,8 @@ class TestTable(unittest.TestCase):
 
     def test_blocks_that_are_ended(self):
         words = words_of("x o", "y o", "z o", "u", "v")
-        for ends, rest, more in ((1, "} }", ((3, 4, 1), (4, 2, 0), (2, 4, 0))), (2, "}", ((2, 4, 1), (4, 1, 0), (1, 4, 0))),
+        for ends, rest, more in ((1, "} }", ((3, 4, 1), (4, 2, 0), (2, 4, 0))),
+                                 (2, "}", ((2, 4, 1), (4, 1, 0), (1, 4, 0))),
                                  (3, "", ((1, 4, 1), (4, -1, 0), (-1, 4, 0)))):
             row = row_of("; x o", "{ y o", "{ z o", "{ u", "} " * ends + "; v", rest)
             self.assert_demands(rich_book(), words, row, *more)
@@ -222,7 +224,8 @@ class TestColumns(unittest.TestCase):
                 self.assertTrue(wanted.is_read_by(text.columns))
                 self.assertEqual(wanted.waiting, tuple(waiting for _, waiting in reading.states))
                 for at, (pile, _) in enumerate(reading.states):
-                    told = [(-1 if word in book.brackets else text.columns[line], word) for line, word in wanted.piles[at]]
+                    told = [(-1 if word in book.brackets else text.columns[line], word)
+                            for line, word in wanted.piles[at]]
                     self.assertEqual(tuple(told), pile)
                 self.assert_read_by(book, text.words, reading.row(), range(5 if len(text) < 4 else 3))
 
@@ -317,17 +320,19 @@ class TestErrors(Refusing):
         wanted = Wanted.of(py_book(), loop_text())
         for value in [4, -1, SIXTY] + no_integers():
             self.assert_refused(InvalidNumber, value, wanted.demands_of, value)
-        wrong = [(0, 4, 8), (0, 4, 8, 4, 0), [0, 4, 8, 4], (0, 4, 8, 200), (0, 4, 8, -1), (0, 4, 8, True), (False, 4, 8, 4),
-                 (0, 4, 8, "4"), (0, 4, 8, None), "0484", (0, 4, 8, SIXTY), (0, 4, 8, (4,))]
+        wrong = [(0, 4, 8), (0, 4, 8, 4, 0), [0, 4, 8, 4], (0, 4, 8, 200), (0, 4, 8, -1), (0, 4, 8, True),
+                 (False, 4, 8, 4), (0, 4, 8, "4"), (0, 4, 8, None), "0484", (0, 4, 8, SIXTY), (0, 4, 8, (4,))]
         for value in wrong + odd_values():
             self.assert_refused(InvalidText, "no", wanted.is_read_by, value)
             self.assert_refused(InvalidText, "no", wanted.unmet, value)
 
     def test_equality(self):
         words = words_of("x o", "y")
-        made = [Wanted(rich_book(), words, row_of("; x o", "{ y", "}")), Wanted(rich_book(), words, row_of("x o", "{ y", "}")),
+        made = [Wanted(rich_book(), words, row_of("; x o", "{ y", "}")),
+                Wanted(rich_book(), words, row_of("x o", "{ y", "}")),
                 Wanted(rich_book("breaks"), words, row_of("; x o", "{ y", "}")),
-                Wanted(rich_book(), words_of("z o", "y"), row_of("; z o", "{ y", "}")), Wanted.of(py_book(), loop_text())]
+                Wanted(rich_book(), words_of("z o", "y"), row_of("; z o", "{ y", "}")),
+                Wanted.of(py_book(), loop_text())]
         for one, other in itertools.product(enumerate(made), repeat=2):
             self.assertEqual([one[1] == other[1], one[1] != other[1]], [one[0] == other[0], one[0] != other[0]])
         self.assertEqual(made[4], Wanted.of(py_book(), loop_text().at((0, 1, 2, 1))))

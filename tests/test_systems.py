@@ -49,7 +49,8 @@ class TestExamples(unittest.TestCase):
                          [1, -199, 0, -199])
         self.assertEqual([system.chain(2, 0), system.chain(1, 1)], [((1, 0, 1), (2, 1, 0)), ()])
         self.assertEqual([system.range_of(0), system.range_of(2)], [(0, 198), (1, 199)])
-        self.assertEqual([system.ties(), system.are_tied(1, 2), system.are_tied(0, 1)], [((-1,), (0,), (1, 2)), True, False])
+        self.assertEqual([system.ties(), system.are_tied(1, 2), system.are_tied(0, 1)],
+                         [((-1,), (0,), (1, 2)), True, False])
 
     def test_a_system_without_columns(self):
         system = System(2, RING)
@@ -168,7 +169,8 @@ class TestByForce(unittest.TestCase):
                 demands[2] = (upper, lower, min(least + 1, 199))
             system = System(60, tuple(demands))
             if system.is_possible:
-                self.assertTrue(system.is_met(columns) and system.is_met(system.narrowest) and system.is_met(system.widest))
+                for met in (columns, system.narrowest, system.widest):
+                    self.assertTrue(system.is_met(met))
                 for upper, lower in itertools.product(range(-1, 60, 3), repeat=2):
                     chain = system.chain(upper, lower)
                     self.assertTrue(is_chain(system, upper, lower, chain))
@@ -253,10 +255,14 @@ class TestJudges(Refusing):
         for ring in (RING, (RING[1], RING[0]), RING * 3, ((0, 1, 1), (-1, 0, -199), (1, -1, 0)) + RING * 200):
             self.assertIs(is_ring(system, ring), True)
         wrong = [(), RING[:1], ((0, 1, 1), (1, 0, 1)), ((1, 0, 0), (0, 1, True)), ((0, 1, 1), (1, -1, 0)), list(RING),
-                 ((1, -1, 0), (-1, 1, -199)), (RING[0], list(RING[1])), (RING, RING), ((0, 1, 1), (-1, 0, -199), (1, -1, 0)),
-                 ((0, 1, 1), (-1, 0, -199), (1, -1, 0)) + RING * 100, (None,)]
+                 ((1, -1, 0), (-1, 1, -199)), (RING[0], list(RING[1])), (RING, RING),
+                 ((0, 1, 1), (-1, 0, -199), (1, -1, 0)),
+                 ((0, 1, 1), (-1, 0, -199), (1, -1, 0)) + RING * 100, (None,), (None, RING[0]),
+                 (RING[0], None), ((0,), RING[0])]
         for value in wrong + odd_values():
             self.assertIs(is_ring(system, value), False, value)
+        level = System(2, ((0, 1, 1), (1, 0, -1), (0, 1, 0)))
+        self.assertIs(is_ring(level, ((0, 1, 1), (1, 0, -1))), False)
         self.assertIs(is_ring(System(2), RING), False)
 
     def test_systems_and_places(self):
@@ -275,7 +281,8 @@ class TestErrors(Refusing):
     def test_making(self):
         for value in [61, -1, SIXTY] + no_integers():
             self.assert_refused(InvalidNumber, value, System, value, None)
-        wrong = [((2, 0, 0),), ((0, 2, 0),), ((-2, 0, 0),), ((0, 0, 200),), ((0, 0, -200),), ((True, 0, 0),), [(0, 1, 0)],
+        wrong = [((2, 0, 0),), ((0, 2, 0),), ((-2, 0, 0),), ((0, 0, 200),), ((0, 0, -200),), ((True, 0, 0),),
+                 [(0, 1, 0)],
                  ((0, 1),), ((0, 1, 0, 0),), ([0, 1, 0],), (None,), (0, 1, 0), ((0, 1, "0"),), ((0, 1, False),),
                  ((0, 1, 0),) * 601]
         for value in wrong + [value for value in odd_values() if value != ()]:

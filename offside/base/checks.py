@@ -5,6 +5,15 @@ from offside.base.texts import Text
 from offside.errors import InvalidBook, InvalidText
 
 
+def is_same(value, other):
+    """Whether two values are equal, and True is not taken for 1."""
+    if isinstance(value, tuple) and isinstance(other, tuple):
+        if len(value) != len(other):
+            return False
+        return all([is_same(value[at], other[at]) for at in range(len(value))])
+    return isinstance(value, bool) == isinstance(other, bool) and value == other
+
+
 def check_book(book):
     """Raises InvalidBook unless the value is a book."""
     if not isinstance(book, Book):

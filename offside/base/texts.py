@@ -107,8 +107,6 @@ class Text:
 
     def at(self, columns):
         """The text with other columns."""
-        if not are_columns(columns, len(self._lines)):
-            raise InvalidText("other columns are a tuple with one for each line")
         return Text.made(columns, self._words)
 
     def part(self, first, last):

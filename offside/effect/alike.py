@@ -1,6 +1,6 @@
 """Stretches that do the same in all texts, and what shows whether they do."""
 
-from offside.base.checks import check_book, check_text
+from offside.base.checks import check_book, check_text, is_same
 from offside.base.texts import MAX_LINES, Text
 from offside.effect.around import are_unlike_between, texts_around
 from offside.effect.links import Links
@@ -26,15 +26,6 @@ def explored(book, one, other):
     links = Links(Rules(book), one.lines, other.lines)
     links.explore()
     return links
-
-
-def is_same(value, other):
-    """Whether two values are equal, and True is not taken for 1."""
-    if isinstance(value, tuple) and isinstance(other, tuple):
-        if len(value) != len(other):
-            return False
-        return all([is_same(value[at], other[at]) for at in range(len(value))])
-    return isinstance(value, bool) == isinstance(other, bool) and value == other
 
 
 def is_alike(book, one, other):

@@ -21,12 +21,15 @@ def ahead_of(one, other):
 
 
 def verdict(rules, one, other, ahead):
-    """Whether two outcomes are a link, or unlike, or settled: both broken, or done and alike."""
+    """Whether two outcomes are a link, or unlike, or settled: both broken, or done and alike.
+
+    What is ahead is () where one of them is broken, too.
+    """
     if one[0] == BROKEN and other[0] == BROKEN:
         return SETTLED
     if one[0] != DONE and other[0] != DONE:
         return LINKED
-    if one[0] == BROKEN or other[0] == BROKEN or ahead == ():
+    if ahead == ():
         return UNLIKE
     if one[0] == DONE and other[0] == DONE:
         # The same pile lies beneath the known blocks, and equal signs end with the same word.
@@ -96,10 +99,7 @@ class Links:
             if len(self.found) > MAX_LINKS:
                 raise TooMany(MAX_LINKS)
             told += 1
-            ahead = fresh
-            fresh = []
-            for link in ahead:
-                fresh.extend(self._links_behind(link))
+            fresh = self._links_behind_all(fresh)
         if self.unlike:
             self.least_told = told
 
@@ -109,8 +109,14 @@ class Links:
         for opener in [""] + list(self.rules.starts):
             signs, one = begin(self.rules, self.one.rows, opener)
             other_signs, other = begin(self.rules, self.other.rows, opener)
-            link = self._judged(one, other, ahead_of(signs, other_signs), (), opener)
-            fresh.extend(link)
+            fresh.extend(self._judged(one, other, ahead_of(signs, other_signs), (), opener))
+        return fresh
+
+    def _links_behind_all(self, links):
+        """The new links behind some links."""
+        fresh = []
+        for link in links:
+            fresh.extend(self._links_behind(link))
         return fresh
 
     def _links_behind(self, link):

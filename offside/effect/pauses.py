@@ -1,24 +1,11 @@
 """What a stretch of lines does: where it asks for blocks, and what it makes of them."""
 
-from offside.base.checks import check_book, check_text
+from offside.base.checks import check_book, check_text, is_same
 from offside.effect.reach import Reach
 from offside.effect.stretch import BROKEN, DONE, begin, go_on, pass_through
 from offside.errors import InvalidOperation, InvalidState
 from offside.read.states import MAX_PILE, is_block, is_state, is_waiting
 from offside.read.walk import GROUND_BLOCK, Rules
-
-
-def is_pause(value):
-    """Whether the value has the form of a pause; True and 1 are not told apart by ==."""
-    if not isinstance(value, tuple) or len(value) != 4:
-        return False
-    numbers = [number for number in value[:2] if isinstance(number, int) and not isinstance(number, bool)]
-    return len(numbers) == 2 and isinstance(value[2], bool) and isinstance(value[3], str)
-
-
-def is_ground(value):
-    """Whether the value is the block for which the ground is asked."""
-    return value == GROUND_BLOCK and not isinstance(value[0], bool)
 
 
 class Effect:
@@ -56,9 +43,9 @@ class Effect:
 
     def step(self, pause, block):
         """The signs and the outcome from a pause with this block as the top."""
-        if not is_pause(pause) or pause not in self._pauses:
+        if pause not in self._pauses or not is_same(pause, self._pauses[self._pauses.index(pause)]):
             raise InvalidState("no state leads to such a pause")
-        if not is_block(self._book, block) and not is_ground(block):
+        if not is_block(self._book, block) and not is_same(block, GROUND_BLOCK):
             raise InvalidState("only blocks of the book and the ground are asked for")
         return go_on(self._rules, self._lines, pause, block)
 

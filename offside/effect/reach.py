@@ -27,12 +27,16 @@ class Reach:
         for opener in [""] + list(self.rules.starts):
             fresh.extend(self._follow(Walk(self.rules, (), opener), 0))
         for _ in range(most):
-            ahead = fresh
-            fresh = []
-            for pause in ahead:
-                for block in self._blocks_for(pause):
-                    fresh.extend(self._behind(pause, block))
+            fresh = self._behind_all(fresh)
         return tuple(sorted(self.seen))
+
+    def _behind_all(self, pauses):
+        """The new pauses behind some pauses."""
+        fresh = []
+        for pause in pauses:
+            for block in self._blocks_for(pause):
+                fresh.extend(self._behind(pause, block))
+        return fresh
 
     def _blocks_for(self, pause):
         """Blocks that stand for all with which the reading can go on from a pause."""

@@ -171,4 +171,4 @@ class Reading:
 def is_row(book, text, value):
     """Whether the value is the row of this text."""
     reading = Reading(book, text)
-    return reading.fault is None and isinstance(value, tuple) and reading.parts == value
+    return reading.fault is None and reading.parts == value

@@ -58,7 +58,6 @@ def is_regular(book, value):
 
 def check_regular(book, *states):
     """Raises InvalidBook, or InvalidState unless these are regular states of the book."""
-    check_book(book)
     for state in states:
         if not is_regular(book, state):
             raise InvalidState("this is no regular state of the book")
