@@ -9,6 +9,7 @@ from offside.base.books import Book
 from offside.base.texts import Text
 from offside.effect.pauses import Effect
 from offside.errors import InvalidBook, InvalidNumber, InvalidOperation, InvalidState, InvalidText, TooMany
+from offside.read.reading import Reading
 from offside.read.states import are_alike, states_upto
 from tests import naive
 from tests.values import (Refusing, hs_book, kinds_of_books, loop_text, no_integers, not_of, odd_values, py_book,
@@ -155,6 +156,37 @@ class TestSteps(unittest.TestCase):
         self.assertEqual(effect.step((0, -1, False, ""), (1, "o")),
                          (("x", "x", "y", "l", "z", "r", ";", "w"), ("done", ((1, "o"),), "")))
 
+    def test_each_pause_with_each_block(self):
+        chance = random.Random(15)
+        for _ in range(60):
+            book = random_book(chance)
+            effect = Effect(book, random_text(chance, book, chance.randint(1, 4), (0, 1, 2)))
+            # For each pause the blocks that lead to it, the top first, and the signs told by then.
+            ways = {}
+            ahead = [(waiting, (), effect.start(waiting)) for waiting in ("",) + tuple(book.openers)]
+            while ahead:
+                waiting, told, (signs, outcome) = ahead.pop(0)
+                if outcome[0] == "asks" and outcome[1] not in ways:
+                    ways[outcome[1]] = True
+                    for block in blocks_of(book, range(4)):
+                        more, behind = effect.step(outcome[1], block)
+                        self.check_step(effect, waiting, told + (block,), signs + more, behind)
+                        ahead.append((waiting, told + (block,), (signs + more, behind)))
+            self.assertEqual(tuple(sorted(ways)), effect.pauses)
+
+    def check_step(self, effect, waiting, told, signs, outcome):
+        """What a step gives, beside the reading from the pile of the blocks that were told."""
+        pile = tuple(reversed(told))
+        parts, fault, states, _ = naive.read(effect.book, effect.text.lines, (pile[pile[0] == (0, ""):], waiting), True)
+        if outcome[0] == "broken":
+            self.assertEqual(outcome[1:], fault)
+        elif outcome[0] == "done":
+            self.assertEqual([signs, outcome[2]], [sum(parts, ()), states[-1][1]])
+            self.assertEqual(outcome[1][pile[0] == (0, ""):], states[-1][0])
+        else:
+            many = naive.asked(effect.book, effect.text.lines, (pile, waiting))
+            self.assertEqual([pile[0] == (0, ""), many], [False, len(told) + 1])
+
     def test_steps_make_the_reading(self):
         chance = random.Random(5)
         for _ in range(600):
@@ -248,6 +280,33 @@ class TestTogether(Refusing):
             second = None if first is None else other.at(first[1])
             expected = None if second is None else (first[0] + second[0], second[1])
             self.assertEqual(both.at(state), expected)
+
+    def test_a_text_in_parts_after_a_change(self):
+        # [0.24]: after a change of one part, the effects of the others are put together with its own.
+        chance = random.Random(16)
+        read = 0
+        for _ in range(400):
+            book = random_book(chance)
+            texts = [random_text(chance, book, chance.randint(0, 3), (0, 1, 2)) for _ in range(4)]
+            effects = [Effect(book, part) for part in texts]
+            at = chance.randrange(4)
+            texts[at] = random_text(chance, book, chance.randint(0, 3), (0, 1, 2))
+            effects[at] = Effect(book, texts[at])
+            state, signs, line, fault = ((), ""), (), 0, None
+            for effect in effects:
+                if fault is None and effect.at(state) is None:
+                    fault = effect.fault_at(state)
+                    fault = (fault[0] + line, fault[1])
+                elif fault is None:
+                    more, state = effect.at(state)
+                    signs += more
+                    line += len(effect)
+            whole = Reading(book, texts[0] + texts[1] + texts[2] + texts[3], is_open=True)
+            self.assertEqual(fault, whole.fault)
+            if fault is None:
+                read += 1
+                self.assertEqual([signs, state], [whole.signs, whole.last_state])
+        self.assertGreater(read, 20)
 
     def test_too_many_lines(self):
         one = Effect(py_book(), Text(*[(0, ("x",))] * 31))
