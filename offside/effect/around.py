@@ -48,7 +48,9 @@ def lines_after(rules, one, other, state):
         if class_told(rules, states[-1]) == class_told(rules, other_states[-1]):
             return None
         return lines_apart(rules, states[-1], other_states[-1])
-    return lines_behind(rules, other_states[-1] if fault else states[-1])
+    # It is enough that one of the two texts is read to its end.
+    ends = [found[-1] for found, broken in ((states, fault), (other_states, other_fault)) if not broken]
+    return min([lines_behind(rules, state) for state in ends], key=len)
 
 
 def texts_around(rules, one, other, links):
