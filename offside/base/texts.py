@@ -9,7 +9,9 @@ MAX_LINES = 60
 def written_line(line):
     """The written form of a line."""
     column, words = line
-    return " " * column + " ".join(words)
+    blanks = " " * column
+    told = " ".join(words)
+    return f"{blanks}{told}"
 
 
 def line_written(row):

@@ -41,9 +41,9 @@ def all_lengths(many, demands):
             return None
         first = lengths[between]
         for upper in range(many + 1):
-            second = lengths[upper][between]
-            lengths[upper] = [old if old >= second + new else second + new
-                              for old, new in zip(lengths[upper], first)]
+            row = lengths[upper]
+            second = row[between]
+            lengths[upper] = [old if old >= second + new else second + new for old, new in zip(row, first)]
     return None if has_ring(lengths) else lengths
 
 
