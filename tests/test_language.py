@@ -24,6 +24,14 @@ INTERFACE = {
     "effect.alike": {"is_alike", "alike_paper", "is_alike_paper", "least_parting"},
     "demand.rows": {"is_sign_rows", "is_demand", "first_impossible", "Wanted"},
     "demand.columns": {"System", "is_chain", "is_ring", "span"},
+    "demand.changes": {
+        "MAX_WEIGHT", "price", "is_flow", "worth", "least_change", "is_change", "line_moved", "repaired",
+    },
+    "demand.places": {"joint", "portable", "is_portable", "menu", "shifts", "stops", "is_stops", "pastes"},
+    "book.order": {
+        "does_extend", "do_agree", "parting_text", "is_parting", "variants", "reading_so", "least_books",
+        "greatest_books",
+    },
 }
 BUILTINS = set("""
     len range enumerate zip min max sum abs sorted reversed int str bool list tuple dict set isinstance ord repr any

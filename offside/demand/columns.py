@@ -186,10 +186,10 @@ def check_system(system):
         raise InvalidOperation("this is no system")
 
 
-def end_of_chain(system, lower, value):
-    """Where a chain of demands of the system leads from a line or the ground, or None if it is none."""
+def end_of_chain(demands, lower, value):
+    """Where a chain of these demands leads from a line or the ground, or None if it is none."""
     place = lower
-    every = set(system.all_demands)
+    every = set(demands)
     for demand in value:
         # What is no demand need not be a possible member of a set.
         if not is_demand(demand) or demand not in every or demand[1] != place:
@@ -198,21 +198,26 @@ def end_of_chain(system, lower, value):
     return place
 
 
+def is_ring_among(demands, value):
+    """Whether the value is a ring of these demands."""
+    if not isinstance(value, tuple) or not value or not is_demand(value[0]):
+        return False
+    start = value[0][1]
+    return end_of_chain(demands, start, value) == start and sum([demand[2] for demand in value]) > 0
+
+
 def is_chain(system, upper, lower, value):
     """Whether the value is a chain of demands from `lower` to `upper`."""
     check_system(system)
     check_number(upper, GROUND, system.many - 1)
     check_number(lower, GROUND, system.many - 1)
-    return isinstance(value, tuple) and end_of_chain(system, lower, value) == upper
+    return isinstance(value, tuple) and end_of_chain(system.all_demands, lower, value) == upper
 
 
 def is_ring(system, value):
     """Whether the value is a ring of demands."""
     check_system(system)
-    if not isinstance(value, tuple) or not value or not is_demand(value[0]):
-        return False
-    start = value[0][1]
-    return end_of_chain(system, start, value) == start and sum([demand[2] for demand in value]) > 0
+    return is_ring_among(system.all_demands, value)
 
 
 def span(system, line, column):

@@ -107,3 +107,31 @@ def next_columns(lengths, columns):
                 found.append(least_behind(lengths, found))
             return tuple(found)
     return None
+
+
+def with_longer(lengths, demand):
+    """The greatest lengths of chains with a further demand, which makes no ring."""
+    upper, lower, least = demand
+    tails = lengths[lower]
+    found = []
+    for row in lengths:
+        ahead = row[upper] + least
+        found.append([old if old >= ahead + tail else ahead + tail for old, tail in zip(row, tails)])
+    return found
+
+
+def without_implied(many, demands):
+    """Some of the demands that have just the columns that all of them have.
+
+    Those between near lines come first, as chains of them imply the others.
+    """
+    full = all_lengths(many, demands + bounds_of(many))
+    if full is None:
+        return list(ring_among(many, sorted(demands + bounds_of(many))))
+    lengths = all_lengths(many, bounds_of(many))
+    found = []
+    for demand in sorted(demands, key=lambda item: (full[item[0]][GROUND] - full[item[1]][GROUND], item)):
+        if lengths[demand[0]][demand[1]] < demand[2]:
+            lengths = with_longer(lengths, demand)
+            found.append(demand)
+    return found

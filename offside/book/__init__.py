@@ -1,0 +1,1 @@
+"""How books compare: which read all that others read."""
