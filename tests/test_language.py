@@ -32,6 +32,13 @@ INTERFACE = {
         "does_extend", "do_agree", "parting_text", "is_parting", "variants", "reading_so", "least_books",
         "greatest_books",
     },
+    "tower.tower": {"Tower"},
+    "use.project": {"MAX_PINS", "MAX_CHANGES", "Project"},
+    "text.texts": {
+        "write_row", "read_row", "write_columns", "read_columns", "write_system", "read_system", "write_state",
+        "read_state",
+    },
+    "text.shell": {"Shell"},
 }
 BUILTINS = set("""
     len range enumerate zip min max sum abs sorted reversed int str bool list tuple dict set isinstance ord repr any

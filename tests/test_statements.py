@@ -1,4 +1,4 @@
-"""The main statements [0.18] to [0.26], over the whole program."""
+"""The main statements [0.16] to [0.26], over the whole program."""
 
 import itertools
 import random
@@ -9,10 +9,14 @@ from offside.base.texts import Text
 from offside.book.order import does_extend, parting_text
 from offside.demand.changes import is_flow, least_change, price, repaired, worth
 from offside.demand.columns import System, is_chain, is_ring
-from offside.demand.places import joint, menu, portable, shifts, stops
-from offside.demand.rows import Wanted
+from offside.demand.places import joint, menu, pastes, portable, shifts, stops
+from offside.demand.rows import Wanted, first_impossible
 from offside.effect.alike import is_alike
+from offside.effect.pauses import Effect
 from offside.read.reading import Reading
+from offside.text.shell import Shell
+from offside.tower.tower import Tower
+from offside.use.project import Project
 from tests.values import case_text, hs_book, kinds_of_books, loop_text, py_book, random_book, random_text
 
 
@@ -218,6 +222,131 @@ class TestWhatIsTrue(unittest.TestCase):
             self.assertEqual(other.parts[:len(text)], one.parts)
             if one.fault is not None:
                 self.assertEqual(other.fault, one.fault)
+
+
+class TestDemands(unittest.TestCase):
+    def test_rows_and_their_demands(self):
+        """[0.16]: no columns give a row, which shows at a line; or those that meet its demands do."""
+        chance = random.Random(145)
+        kinds = {"impossible": 0, "possible": 0}
+        for _ in range(400):
+            book = random_book(chance)
+            text = random_text(chance, book, chance.randint(0, 2), (0, 1, 2))
+            row = Reading(random_book(chance) if chance.random() < .3 else book.joining(deep="joins"), text).parts
+            if len(row) != len(text) + 1:
+                continue
+            given = [columns for columns in itertools.product(range(4), repeat=len(text))
+                     if Reading(book, text.at(columns)).parts == row]
+            if first_impossible(book, text.words, row) is None:
+                kinds["possible"] += 1
+                wanted = Wanted(book, text.words, row)
+                self.assertEqual(given, [columns for columns in itertools.product(range(4), repeat=len(text))
+                                         if wanted.is_read_by(columns)])
+                for line in range(len(text)):
+                    self.assertLessEqual({(line, -1, 0), (-1, line, -199)}, set(wanted.demands))
+            else:
+                kinds["impossible"] += 1
+                self.assertEqual(given, [])
+        self.assertGreater(min(kinds.values()), 20)
+
+
+class TestStretches(unittest.TestCase):
+    def test_a_part_exchanged_for_an_alike_one(self):
+        """[0.21]: the signs of the other lines stay, in a reading and in a tower."""
+        chance = random.Random(146)
+        exchanged = 0
+        for _ in range(1500):
+            book = random_book(chance).joining(deep=chance.choice((None, "joins")), gap="joins")
+            one = random_text(chance, book, chance.randint(1, 2), (0, 1, 2, 3))
+            other = one.at(tuple(column + chance.choice((0, 1)) for column in one.columns))
+            if one == other or not is_alike(book, one, other):
+                continue
+            for _ in range(5):
+                ahead = random_text(chance, book, chance.randint(0, 3), (0, 1, 2))
+                behind = random_text(chance, book, chance.randint(0, 3), (0, 1, 2))
+                readings = [Reading(book, ahead + part + behind) for part in (one, other)]
+                self.assertEqual(readings[0].fault is None, readings[1].fault is None)
+                tower = Tower(book, ahead + one + behind)
+                before = [tower.signs_of(at) for at in range(len(tower))]
+                tower.delete(len(ahead), len(ahead) + len(one))
+                tower.insert(len(ahead), other)
+                after = [tower.signs_of(at) for at in range(len(tower))]
+                if readings[0].fault is None:
+                    self.assertEqual([readings[0].signs, before], [readings[1].signs, after])
+                    self.assertEqual(tower.reading(), readings[1])
+                    exchanged += 1
+        self.assertGreater(exchanged, 60)
+
+    def test_effects_of_parts(self):
+        """[0.24]: what parts do, put together, is what the whole text does."""
+        chance = random.Random(147)
+        for book, text in texts_read(chance, 60, 8):
+            state = ((), "")
+            signs = ()
+            bounds = sorted({0, len(text), chance.randint(0, len(text)), chance.randint(0, len(text))})
+            tower = Tower(book, text)
+            for first, last in itertools.pairwise(bounds):
+                self.assertEqual(tower.state_ahead(first), state)
+                more, state = tower.effect(first, last).at(state)
+                signs += more
+            reading = Reading(book, text, is_open=True)
+            self.assertEqual([signs, state, tower.state_ahead(len(text))],
+                             [reading.signs, reading.last_state, reading.last_state])
+            self.assertEqual(signs, sum([tower.signs_of(at) for at in range(len(text))], ()))
+
+
+class TestWordsRenamed(unittest.TestCase):
+    """[0.26], over a whole session; words with a role are renamed by their book."""
+
+    def told(self, value, names):
+        """A value with other words in all of its tuples and texts."""
+        if isinstance(value, Text):
+            return renamed_text(value, names)
+        if isinstance(value, tuple):
+            return tuple(self.told(item, names) for item in value)
+        return names.get(value, value) if isinstance(value, str) else value
+
+    def session(self, book, text, chance):
+        """All kinds of answers about a text."""
+        row = Reading(book, text).row()
+        wanted = Wanted.of(book, text)
+        system = System.wanting(wanted)
+        many = len(text)
+        first = chance.randint(0, many - 1)
+        last = chance.randint(first + 1, many)
+        other = text.at(tuple(chance.randint(0, 6) for _ in text))
+        part = text.part(first, last)
+        tower = Tower(book, text)
+        news = [tower.change(first, (chance.randint(0, 3), text[first][1])), tower.insert(many, part), tower.undo(),
+                tower.move(first, last, shift=1), tower.delete(0, first)]
+        project = Project(book)
+        more = [project.put(0, line) for line in text] + [project.move(1, 1, 2)]
+        shell = Shell(book)
+        shell.run_all(*[f"line {column} {' '.join(words)}" for column, words in text])
+        answers = shell.run_all("read", "want", "narrow", "wide", "forced 0 -1", "drop", "fix")
+        return (row, Reading(book, text).states, Reading(book, text).blocks, wanted.demands, wanted.piles,
+                system.narrowest, system.widest, shifts(book, text, first, last), stops(book, text, first, last),
+                menu(book, part if Reading(book, part, is_open=True).fault is None else Text(), text[0][1]),
+                pastes(book, text, first, part), repaired(book, other, row), tuple(news),
+                tuple(tower.signs_of(at) for at in range(len(tower))), tower.state_ahead(0), str(tower), tuple(more),
+                str(project), Effect(book, part).asked_at(((), "")), tuple(answers[1:]))
+
+    def test_plain_words(self):
+        chance = random.Random(148)
+        for book, text in texts_read(chance, 60):
+            names = {"x": "plain", "y": "word"}
+            seed = chance.random()
+            expected = self.told(self.session(book, text, random.Random(seed)), names)
+            self.assertEqual(self.session(book, renamed_text(text, names), random.Random(seed)), expected)
+
+    def test_words_with_roles(self):
+        chance = random.Random(149)
+        for book, text in texts_read(chance, 60):
+            names = {word: f"z{word}" for word in book.words}
+            seed = chance.random()
+            expected = self.told(self.session(book, text, random.Random(seed)), names)
+            found = self.session(book.renamed(names), renamed_text(text, names), random.Random(seed))
+            self.assertEqual(found, expected)
 
 
 class TestRings(unittest.TestCase):

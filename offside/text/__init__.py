@@ -1,0 +1,1 @@
+"""Values as texts, and a shell of commands."""

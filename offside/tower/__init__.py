@@ -1,0 +1,1 @@
+"""Texts kept in parts, which are read anew by few of them."""
