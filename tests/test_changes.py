@@ -345,6 +345,7 @@ class TestErrors(Refusing):
         for value in [(0,) * 61, (0, 200), (True,), (None,), [0]] + [value for value in odd_values()
                                                                      if value not in ((), (0,), (1,))]:
             self.assert_refused(InvalidText, "no", price, value, value, 1)
+            self.assert_refused(InvalidText, "no", price, value, (0,), None)
         self.assertEqual(price((0,) * 60, (9,) * 60), 540)
 
     def test_weights(self):

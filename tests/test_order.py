@@ -188,6 +188,7 @@ class TestOrder(Refusing):
         for value in not_of(Book):
             for call in (does_extend, do_agree, parting_text, lambda one, other: is_parting(one, other, None)):
                 self.assert_refused(InvalidBook, "no", call, value, None)
+                self.assert_refused(InvalidBook, "no", call, value, py_book())
                 self.assert_refused(InvalidBook, "no", call, py_book(), value)
 
     def test_names(self):
@@ -252,7 +253,7 @@ class TestReadingSo(Refusing):
     def test_what_is_no_reading(self):
         text = Text((0, ("a",)))
         row = ((";", "a"), ())
-        for value in [[(text, row)], (text, row), ((text, row, None),), ((text,),), ((row, text),), ((text, list(row)),),
+        for value in [[(text, row)], (text, row), ((text, row, None),), ((text,),), ((row, text),), ((row, None),), ((text, list(row)),),
                       ((text, row[:1]),), ((text, row + ((),)),), ((text, (("A",), ())),), ((text, row), None),
                       ((text, False),), ((text, ()),), ((text, "row"),), ([text, row],), ((text, [None]),),
                       ((text, (("a",), None)),)] + [value for value in odd_values() if value != ()]:

@@ -296,6 +296,13 @@ class TestShifts(Refusing):
                 made += 1
         self.assertGreater(made, 60)
 
+    def test_demands_that_stop_one_step_later(self):
+        text = Text((0, ("of",)), (3, ("x", "of")), (9, ("b",)), (8, ("c",)))
+        self.assertEqual(Reading(hs_book(), text).parts[3], ("}", "c"))
+        self.assertEqual([shifts(hs_book(), text, 1, 2), stops(hs_book(), text, 1, 2)], [(-2, 4), ((1, -1, 1), (3, 1, 1))])
+        self.assertIs(is_stops(hs_book(), text, 1, 2, ((1, -1, 1), (2, 1, 1))), False)
+        self.assertIs(is_stops(hs_book(), text, 1, 2, ((1, -1, 0), (3, 1, 1))), False)
+
     def test_values_that_are_no_stops(self):
         wrong = [((2, 1, 1),), ((-1, 2, -199), (2, 1, 1)), ((2, 1, 1), (2, 1, 1)), [(2, 1, 1), (-1, 2, -199)],
                  ((2, 1, 1), (-1, 2, -198)), ((2, 1, 0), (-1, 2, -199)), ((2, 1, True), (-1, 2, -199)),

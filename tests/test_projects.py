@@ -501,6 +501,9 @@ class TestHistory(Refusing):
         self.assertFalse(one == other)
         self.assertTrue(one != other)
         made = [with_lines(hs_book(), loop_text()), with_lines(py_book(), loop_text().part(0, 3)), Project(py_book())]
+        changed = with_lines(py_book(), loop_text())
+        changed.move(3, 3, 1)
+        made.append(changed)
         again = with_lines(py_book(), loop_text())
         again.remove(4)
         again.put(3, loop_text()[3])

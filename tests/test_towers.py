@@ -75,8 +75,8 @@ class TestExamples(unittest.TestCase):
 
     def test_others_like_them(self):
         tower = Tower(hs_book(), case_text())
-        self.assertEqual([tower[2], len(tower), tower.book, tower.text, tower.log],
-                         [(6, ("b",)), 5, hs_book(), case_text(), ()])
+        self.assertEqual([[tower[at] for at in range(5)], len(tower), tower.book, tower.text, tower.log],
+                         [list(case_text()), 5, hs_book(), case_text(), ()])
         self.assertEqual(tower.insert(2, Text((4, ("z",)))), (2, 3))
         self.assertEqual([tower.signs_of(2), tower.signs_of(3), tower.state_ahead(6)],
                          [("{", "z"), ("b",), (((2, "of"),), "")])
@@ -212,6 +212,8 @@ class TestStepByStep(unittest.TestCase):
             fresh = [part for part in tower._now.tiers if not any(part is other for other in old)]
             self.assertLessEqual(len(fresh), 3)
             self.assertTrue(all(len(part.kept) == 1 for part in fresh))
+            # Each part is read once only, as the ground is all that it asks for.
+            self.assertEqual({len(part.kept) for part in tower._now.tiers}, {1})
             self.assertLessEqual(len(tower._now.tiers), 2 * 60 // MOST_OF_PART + 2)
             tower = tower if len(tower.log) < 190 else Tower(py_book(), tower.text)
 

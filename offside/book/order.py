@@ -28,7 +28,7 @@ def does_open_all(pair, other_pair):
     return depth == other_depth or (depth == "level" and other_need == "filled")
 
 
-def does_rules_extend(rules, other):
+def do_rules_extend(rules, other):
     """Whether the rules of a book read all that other ones read, with the same rows."""
     if rules.ends != other.ends or rules.pairs != other.pairs or list(rules.starts) != list(other.starts):
         return False
@@ -42,7 +42,7 @@ def does_rules_extend(rules, other):
 def does_extend(one, other):
     """Whether the first book reads each text that the second one reads, with the same row."""
     check_books(one, other)
-    return does_rules_extend(Rules(one), Rules(other))
+    return do_rules_extend(Rules(one), Rules(other))
 
 
 def do_agree(one, other):
@@ -149,7 +149,7 @@ def all_rules(books):
 
 def is_beyond(rules, other):
     """Whether rules extend other ones, and are not alike."""
-    return does_rules_extend(rules, other) and not does_rules_extend(other, rules)
+    return do_rules_extend(rules, other) and not do_rules_extend(other, rules)
 
 
 def least_books(books):

@@ -1,7 +1,7 @@
 """Texts of rows, columns, systems and states, from which they are read again."""
 
 from offside.base.texts import MAX_LINES, are_columns
-from offside.base.words import is_column, is_integer, is_sign, is_word
+from offside.base.words import is_column, is_sign, is_word
 from offside.demand.columns import System, check_system
 from offside.demand.rows import is_sign_rows
 from offside.errors import InvalidRow, InvalidState, InvalidText, ParseError
@@ -95,7 +95,7 @@ def is_block_written(value):
     """Whether the value is a pair of a column, or of -1, and a word."""
     if not isinstance(value, tuple) or len(value) != 2 or not is_word(value[1]):
         return False
-    return is_column(value[0]) or (is_integer(value[0]) and value[0] == BRACKET)
+    return is_column(value[0]) or value[0] == BRACKET
 
 
 def is_state_written(value):
@@ -105,7 +105,7 @@ def is_state_written(value):
     pile, waiting = value
     if not isinstance(pile, tuple) or len(pile) > MAX_PILE or not all([is_block_written(block) for block in pile]):
         return False
-    return is_word(waiting) or (isinstance(waiting, str) and waiting == "")
+    return is_word(waiting) or waiting == ""
 
 
 def write_state(state):

@@ -13,6 +13,13 @@ from offside.tower.stack import Stack, news_between
 MAX_STEPS = 200
 
 
+def ending_told(breaks_at, many):
+    """How a text of so many lines comes to its end."""
+    if breaks_at is None:
+        return "read"
+    return "broken at the end" if breaks_at == many else f"broken at {breaks_at}"
+
+
 class Tower:
     """A text that is kept in parts, with what they do, and the changes that have led to it."""
 
@@ -123,7 +130,7 @@ class Tower:
 
     def __getitem__(self, at):
         check_number(at, 0, len(self) - 1)
-        return self._now.whole[at]
+        return self._now.whole.lines[at]
 
     def __len__(self):
         return len(self._now.tags)
@@ -136,8 +143,4 @@ class Tower:
 
     def __str__(self):
         many = len(self._now.tags)
-        at = self._now.breaks_at
-        told = "read"
-        if at is not None:
-            told = "broken at the end" if at == many else f"broken at {at}"
-        return f"tower of {many} lines, {told}"
+        return f"tower of {many} lines, {ending_told(self._now.breaks_at, many)}"
